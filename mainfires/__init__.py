@@ -1,0 +1,1 @@
+"""Boilers that share one main: how their days go, and what shows it."""

@@ -1,0 +1,121 @@
+"""0.2: nothing that is handed in or told is tied to any other answer."""
+
+import copy
+import itertools
+import unittest
+
+from mainfires.days import banked, books_right, course
+from mainfires.errors import MainError
+from mainfires.kinds import caps_of, is_firing, is_plant, is_story
+from tests.helper import CALLS, DAYS, REFUSALS, as_lists, kind_and_value, misshapen, strange_things
+
+
+def handed_in(day, thing):
+    plant, story, firing = day
+    return {"plant": plant, "story": story, "firing": firing, "thing": thing}
+
+
+def answer(call, arguments):
+    """What is told, or the class of what it is refused with."""
+    try:
+        return call(*arguments)
+    except MainError as told:
+        return type(told)
+
+
+class Calm(unittest.TestCase):
+    def things(self, day):
+        lists = [as_lists(part) for part in day]
+        return strange_things() + lists + [course(*day)] + misshapen(course(*day))
+
+    def test_what_is_handed_in_stays_as_it_was(self):
+        for day in DAYS:
+            for thing in self.things(day):
+                for call, names in CALLS:
+                    arguments = [handed_in(day, thing)[name] for name in names]
+                    ahead = kind_and_value(arguments)
+                    answer(call, arguments)
+                    self.assertEqual(kind_and_value(arguments), ahead)
+
+    def test_what_is_refused_stays_as_it_was(self):
+        for day in DAYS:
+            for call, names in CALLS:
+                for at, name in enumerate(names):
+                    if name in REFUSALS:
+                        arguments = [handed_in(day, None)[each] for each in names]
+                        arguments[at] = as_lists(arguments[at])
+                        ahead = copy.deepcopy(arguments)
+                        answer(call, arguments)
+                        self.assertEqual(kind_and_value(arguments), kind_and_value(ahead))
+
+    def test_a_told_list_that_is_changed_changes_no_later_answer(self):
+        for day in DAYS:
+            for call in (course, banked):
+                told = call(*day)
+                kept = list(told)
+                told.append((9, 9))
+                self.assertEqual(call(*day), kept)
+                told.clear()
+                self.assertEqual(call(*day), kept)
+                told = call(*day)
+                told[:] = told[::-1]
+                self.assertEqual(call(*day), kept)
+
+    def test_each_told_list_is_new(self):
+        for day in DAYS:
+            for call in (course, banked):
+                self.assertIsNot(call(*day), call(*day))
+
+    def test_a_handed_in_list_that_is_changed_changes_no_later_answer(self):
+        for day in DAYS:
+            book = course(*day)
+            self.assertIs(books_right(*day, book), True)
+            row = book.pop()
+            self.assertIs(books_right(*day, book), False)
+            book.append(row)
+            self.assertIs(books_right(*day, book), True)
+            self.assertEqual(course(*day), book)
+
+    def test_a_list_that_becomes_right_is_asked_anew(self):
+        for call, day in ((is_plant, ()), (is_story, DAYS[0][:1]), (is_firing, DAYS[0][:2])):
+            thing = []
+            self.assertIs(call(*day, thing), False)
+            self.assertIs(call(*day, DAYS[0][len(day)]), True)
+            self.assertIs(call(*day, thing), False)
+
+    def test_the_same_question_has_the_same_answer(self):
+        calls = [(call, day, names) for day in DAYS for call, names in CALLS]
+        first = [answer(call, [handed_in(day, course(*day))[name] for name in names]) for call, day, names in calls]
+        kept = copy.deepcopy(first)
+        for turn in range(2):
+            for at in sorted(range(len(calls)), reverse=turn == 0):
+                call, day, names = calls[at]
+                told = answer(call, [handed_in(day, course(*day))[name] for name in names])
+                self.assertEqual(kind_and_value(told), kind_and_value(kept[at]))
+                for wrong in (None, [], ()):
+                    answer(call, [wrong] * len(names))
+
+    def test_truths_are_not_mixed_up_with_numbers_asked_ahead(self):
+        # 1 and True are one key of a dict, so an answer kept by its question would tell the wrong one.
+        right = (((1, 1),), ((1, 1, 1),), (0, 1, 1))
+        wrong = (((True, 1),), ((1, 1, 1),), (0, 1, 1))
+        for turn in range(2):
+            self.assertIs(is_plant(right), True)
+            self.assertIs(is_plant(wrong), False)
+
+    def test_arguments_by_their_names_in_any_order(self):
+        for day in DAYS:
+            things = handed_in(day, course(*day))
+            for call, names in CALLS:
+                by_place = call(*[things[name] for name in names])
+                for order in itertools.permutations(names):
+                    self.assertEqual(call(**{name: things[name] for name in order}), by_place)
+
+    def test_what_was_told_may_be_handed_in_again(self):
+        for plant, story, firing in DAYS:
+            self.assertIs(is_firing(plant, story, caps_of(plant, story)), True)
+            self.assertIs(books_right(plant, story, firing, course(plant, story, firing)), True)
+
+
+if __name__ == "__main__":
+    unittest.main()
