@@ -1,5 +1,6 @@
 """How a day goes by a firing: the main hour by hour, the coal, the steam."""
 
+from mainfires.errors import NoFiring
 from mainfires.kinds import draws_of, need_firing
 from mainfires.shapes import is_tuple_of, is_whole
 
@@ -35,6 +36,12 @@ def falls_at(plant, story, firing):
 def keeps_up(plant, story, firing):
     """Whether the main never falls short."""
     return falls_at(plant, story, firing) is None
+
+
+def need_keeping(plant, story, firing):
+    """Refuse what need_firing refuses, then a firing that doesn't keep up."""
+    if not keeps_up(plant, story, firing):
+        raise NoFiring("a firing that does not keep up")
 
 
 def coal_of(plant, story, firing):

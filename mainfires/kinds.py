@@ -1,6 +1,6 @@
 """Plants, the stories of a plant, and the firings of both."""
 
-from mainfires.errors import NoFiring, NoPlant, NoStory
+from mainfires.errors import NoBoiler, NoFiring, NoHour, NoPlant, NoStory
 from mainfires.shapes import is_tuple_of, is_whole_from
 
 MOST_BOILERS = 4
@@ -140,9 +140,33 @@ def drawn_by(engine, hour):
     return draw
 
 
+def need_hour(story, hour):
+    """Refuse what is no hour of the story."""
+    if not is_whole_from(hour, 0, len(story[0]) - 1):
+        raise NoHour("no hour of this story")
+
+
+def need_boiler(plant, boiler):
+    """Refuse what is no boiler of the plant."""
+    if not is_whole_from(boiler, 0, len(plant[0]) - 1):
+        raise NoBoiler("no boiler of this plant")
+
+
+def terms_of(plant, story):
+    """What all firings of both hang on: the tuple (caps, coals, draws, main)."""
+    # A unit more, or all boilers but one out, may be beyond any plant and story, so such is asked of changed terms.
+    caps = caps_of(plant, story)
+    coals = tuple([coal for make, coal in plant[0]])
+    return caps, coals, draws_of(plant, story), plant[2]
+
+
 def is_firing(plant, story, thing):
     """Whether it is a firing of the plant and the story."""
-    caps = caps_of(plant, story)
+    return is_firing_within(caps_of(plant, story), thing)
+
+
+def is_firing_within(caps, thing):
+    """Whether it is a firing where the boilers can make so much in each hour."""
     return is_tuple_of(thing, len(caps), len(caps)) and all([is_row(part, row) for part, row in zip(thing, caps)])
 
 

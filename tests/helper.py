@@ -1,7 +1,10 @@
-"""Plants, stories, firings and things of all sorts that the tests hand in."""
+"""Plants, stories, firings and things of all sorts that the tests hand in, and plain ways to reckon what is due."""
 
-from mainfires import days, kinds
-from mainfires.errors import NoFiring, NoPlant, NoStory
+import itertools
+import random
+
+from mainfires import days, kinds, least, sets, stretches, units
+from mainfires.errors import NoBoiler, NoFiring, NoHour, NoPlant, NoPrices, NoSet, NoStory
 
 ONE = (((5, 2),), (), (0, 10, 5))
 ONE_STORY = ((3, 4, 5), ())
@@ -37,8 +40,50 @@ DAYS = (
     (WIDE, WIDE_STORY, WIDE_FIRING),
 )
 
+# A plant whose main can't hold all that is cheap: reckoned by hand in the tests.
+TIGHT = (((3, 1), (4, 5)), (), (1, 4, 2))
+TIGHT_STORY = ((0, 8, 0), ())
+
+# No firing keeps up; shown by (0, 2) and by (2, 2).
+SHORT = (((2, 1),), (), (0, 5, 5))
+SHORT_STORY = ((6, 0, 8), ())
+
+# The bounds that the document names, each with a plant and a story at it.
+EDGES = (
+    ("low of 0", (((2, 3),), (), (0, 4, 1)), ((2, 1), ())),
+    ("start at high", (((2, 3), (1, 1)), (), (1, 4, 4)), ((5, 0, 4), ())),
+    ("low, high and start at one", (((3, 3), (2, 1)), (), (4, 4, 4)), ((5, 0, 4), ())),
+    ("a main that holds nothing", (((3, 3), (2, 1)), (), (0, 0, 0)), ((5, 0, 4), ())),
+    ("a main that holds nothing, short", (((3, 3), (2, 1)), (), (0, 0, 0)), ((5, 0, 6), ())),
+    ("nothing drawn", (((2, 3),), (), (0, 4, 1)), ((0, 0, 0), ())),
+    ("nothing drawn ahead of the last hour", (((2, 1),), ((9, 7, 1),), (0, 40, 0)), ((0,) * 8, ())),
+    ("drawn by an engine alone", (((5, 4), (5, 2)), ((9, 1, 2),), (0, 3, 0)), ((0,) * 5, ())),
+    ("out in one hour", (((4, 1), (4, 9)), (), (0, 3, 0)), ((2, 4, 2), ((0, "out", 1, 1),))),
+    ("all out", (((4, 1), (4, 9)), (), (0, 9, 9)), ((2, 3, 4), ((0, "out", 0, 2), (1, "out", 0, 2)))),
+    ("all out, short", (((4, 1), (4, 9)), (), (0, 9, 9)), ((2, 4, 4), ((0, "out", 0, 2), (1, "out", 0, 2)))),
+    ("scaled", (((5, 1), (4, 9)), (), (0, 3, 0)), ((2, 4, 3), ((0, "scaled", 1, 2), (1, "scaled", 1, 2)))),
+    ("scaled to nothing", (((1, 1), (1, 2)), (), (0, 2, 1)), ((1, 1, 1), ((0, "scaled", 0, 2),))),
+    ("out and scaled", (((5, 1), (4, 9)), (), (1, 3, 1)), ((2, 2), ((0, "scaled", 0, 1), (0, "out", 1, 1)))),
+    ("one hour", (((5, 1), (4, 9)), (), (1, 3, 1)), ((7,), ())),
+    ("one hour, short", (((5, 1), (4, 9)), (), (1, 3, 1)), ((10,), ())),
+    ("one boiler", (((9, 9),), (), (0, 40, 0)), ((9, 0, 18), ())),
+    ("boilers of the same coal", (((2, 3), (2, 3), (2, 3)), (), (0, 5, 2)), ((1, 7, 6), ())),
+    ("all at their most", (((9, 9),) * 4, ((9, 0, 1),) * 4, (40, 40, 40)), ((0,) * 8, ())),
+    ("all beyond their most", (((9, 9),) * 4, ((9, 0, 1),) * 4, (40, 40, 40)), ((0,) * 7 + (1,), ())),
+    ("all at their least", (((1, 1),), (), (0, 0, 0)), ((0,), ())),
+    ("the most drawn besides", (((9, 2), (9, 1), (9, 3)), (), (0, 40, 40)), ((20,) * 8, ())),
+)
+
 # What each function takes, by the names of the interface, and what it refuses these with.
-REFUSALS = {"plant": NoPlant, "story": NoStory, "firing": NoFiring}
+REFUSALS = {
+    "plant": NoPlant,
+    "story": NoStory,
+    "firing": NoFiring,
+    "prices": NoPrices,
+    "hour": NoHour,
+    "boiler": NoBoiler,
+    "chosen": NoSet,
+}
 CALLS = (
     (kinds.is_plant, ("thing",)),
     (kinds.is_story, ("plant", "thing")),
@@ -53,7 +98,64 @@ CALLS = (
     (days.steam_by, ("plant", "story", "firing")),
     (days.banked, ("plant", "story", "firing")),
     (days.books_right, ("plant", "story", "firing", "thing")),
+    (least.floor_of, ("plant", "story", "prices")),
+    (least.cheapest, ("plant", "story")),
+    (least.cheapest_holds, ("plant", "story", "thing")),
+    (least.prices_hold, ("plant", "story", "firing", "thing")),
+    (least.least_coal, ("plant", "story")),
+    (stretches.stretch_holds, ("plant", "story", "thing")),
+    (stretches.stretch_of, ("plant", "story")),
+    (stretches.fullest, ("plant", "story")),
+    (stretches.leanest, ("plant", "story")),
+    (units.more_drawn, ("plant", "story", "hour")),
+    (units.less_drawn, ("plant", "story", "hour")),
+    (units.wider, ("plant", "story")),
+    (units.lower, ("plant", "story")),
+    (units.fuller, ("plant", "story")),
+    (units.better, ("plant", "story", "boiler", "hour")),
+    (sets.fewest, ("plant", "story")),
+    (sets.fewest_holds, ("plant", "story", "thing")),
+    (sets.alone, ("plant", "story", "chosen")),
+    (sets.needed, ("plant", "story")),
 )
+
+
+def right_things(day):
+    """A right thing for each name that the interface has."""
+    plant, story, firing = day
+    hours = len(story[0])
+    boilers = len(plant[0])
+    return {
+        "plant": plant,
+        "story": story,
+        "firing": firing,
+        "prices": tuple(range(hours)),
+        "hour": hours - 1,
+        "boiler": boilers - 1,
+        "chosen": tuple(range(boilers)),
+        "thing": None,
+    }
+
+
+def is_right(name, day, thing):
+    """Whether the thing is right by that name, of the names of which some strange things are, with the day's others."""
+    plant, story, firing = day
+    hours = len(story[0])
+    boilers = len(plant[0])
+    if name == "hour":
+        return type(thing) is int and 0 <= thing < hours
+    if name == "boiler":
+        return type(thing) is int and 0 <= thing < boilers
+    if name == "prices":
+        return type(thing) is tuple and len(thing) == hours and all(type(each) is int and each >= 0 for each in thing)
+    if name == "chosen":
+        return kind_and_value(thing) in [kind_and_value(chosen) for chosen in all_sets(boilers)]
+    return False
+
+
+def all_sets(boilers):
+    """All sets of so many boilers, those of fewer ahead, each number of them as sets rise."""
+    return [chosen for many in range(boilers + 1) for chosen in itertools.combinations(range(boilers), many)]
 
 
 def deep(wrap):
@@ -131,3 +233,90 @@ def misshapen(thing):
 def kind_and_value(thing):
     """What tells apart all that Python's == holds for the same, as 1 and True."""
     return repr(thing)
+
+
+def chance_stories(many):
+    """So many plants, each with a story, of all sizes; the same at each call."""
+    chance = random.Random(20)
+    found = []
+    for turn in range(many):
+        boilers = tuple((chance.randint(1, 9), chance.randint(1, 9)) for each in range(chance.randint(1, 4)))
+        engines = tuple(
+            (chance.randint(1, 9), chance.randint(0, 7), chance.randint(1, 8)) for each in range(chance.randint(0, 2))
+        )
+        high = chance.choice((chance.randint(0, 40), chance.randint(0, 6)))
+        start = chance.randint(0, high)
+        low = chance.choice((0, chance.randint(0, start)))
+        hours = chance.randint(1, 8)
+        extra = tuple(chance.choice((0, chance.randint(0, 6), chance.randint(0, 20))) for hour in range(hours))
+        faults = []
+        for each in range(chance.randint(0, 4)):
+            first = chance.randint(0, hours - 1)
+            word = chance.choice(("out", "scaled"))
+            faults.append((chance.randint(0, len(boilers) - 1), word, first, chance.randint(first, hours - 1)))
+        found.append(((boilers, engines, (low, high, start)), (extra, tuple(faults))))
+    return found
+
+
+def all_stories():
+    """Plants, each with a story: at the bounds, by hand and by chance."""
+    told = [(plant, story) for name, plant, story in EDGES] + [(plant, story) for plant, story, firing in DAYS]
+    return told + [(TIGHT, TIGHT_STORY), (SHORT, SHORT_STORY)] + chance_stories(120)
+
+
+def hand_terms(plant, story):
+    """What both come to, as lists that may be changed: caps, coals, draws and main."""
+    caps = [list(row) for row in kinds.caps_of(plant, story)]
+    return {
+        "caps": caps,
+        "coals": [coal for make, coal in plant[0]],
+        "draws": list(kinds.draws_of(plant, story)),
+        "main": list(plant[2]),
+    }
+
+
+def coal_for_units(row, coals):
+    """The least coal for each number of units that can be made in an hour."""
+    least_for = {0: 0}
+    for cap, coal in zip(row, coals):
+        sums = [(made + more, burnt + more * coal) for made, burnt in least_for.items() for more in range(cap + 1)]
+        least_for = {}
+        for made, burnt in sums:
+            least_for[made] = min(burnt, least_for.get(made, burnt))
+    return least_for
+
+
+def mains_reached(terms):
+    """For each hour the mains at its end that some firing that didn't fall short has, each with the least coal."""
+    low, high, start = terms["main"]
+    reached = {start: 0}
+    told = []
+    for row, drawn in zip(terms["caps"], terms["draws"]):
+        ways = [
+            (min(main + made - drawn, high), coal + burnt)
+            for main, coal in reached.items()
+            for made, burnt in coal_for_units(row, terms["coals"]).items()
+            if main + made - drawn >= low
+        ]
+        reached = {}
+        for main, coal in ways:
+            reached[main] = min(coal, reached.get(main, coal))
+        told.append(reached)
+    return told
+
+
+def walked_coal(terms):
+    """The least coal, found by walking through all mains, None where no firing keeps up."""
+    return min(mains_reached(terms)[-1].values(), default=None)
+
+
+def only_boilers(terms, chosen):
+    """The same where all other boilers can make nothing."""
+    caps = [[cap if boiler in chosen else 0 for boiler, cap in enumerate(row)] for row in terms["caps"]]
+    return dict(terms, caps=caps)
+
+
+def all_firings(plant, story):
+    """All firings of both."""
+    rows = [itertools.product(*[range(cap + 1) for cap in row]) for row in kinds.caps_of(plant, story)]
+    return list(itertools.product(*rows))

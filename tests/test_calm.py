@@ -7,12 +7,15 @@ import unittest
 from mainfires.days import banked, books_right, course
 from mainfires.errors import MainError
 from mainfires.kinds import caps_of, is_firing, is_plant, is_story
-from tests.helper import CALLS, DAYS, REFUSALS, as_lists, kind_and_value, misshapen, strange_things
+from mainfires.least import cheapest, cheapest_holds, floor_of, prices_hold
+from mainfires.sets import fewest, fewest_holds
+from mainfires.stretches import stretch_holds, stretch_of
+from tests.helper import CALLS, DAYS, REFUSALS, SHORT, SHORT_STORY, as_lists, kind_and_value, misshapen, right_things
+from tests.helper import strange_things
 
 
 def handed_in(day, thing):
-    plant, story, firing = day
-    return {"plant": plant, "story": story, "firing": firing, "thing": thing}
+    return dict(right_things(day), thing=thing)
 
 
 def answer(call, arguments):
@@ -25,13 +28,14 @@ def answer(call, arguments):
 
 class Calm(unittest.TestCase):
     def things(self, day):
-        lists = [as_lists(part) for part in day]
-        return strange_things() + lists + [course(*day)] + misshapen(course(*day))
+        papers = [cheapest(*day[:2]), fewest(*day[:2])]
+        lists = [as_lists(part) for part in list(day) + papers]
+        return strange_things() + papers + lists + [course(*day)] + misshapen(course(*day))
 
     def test_what_is_handed_in_stays_as_it_was(self):
         for day in DAYS:
-            for thing in self.things(day):
-                for call, names in CALLS:
+            for call, names in CALLS:
+                for thing in self.things(day) if "thing" in names else [None]:
                     arguments = [handed_in(day, thing)[name] for name in names]
                     ahead = kind_and_value(arguments)
                     answer(call, arguments)
@@ -115,6 +119,15 @@ class Calm(unittest.TestCase):
         for plant, story, firing in DAYS:
             self.assertIs(is_firing(plant, story, caps_of(plant, story)), True)
             self.assertIs(books_right(plant, story, firing, course(plant, story, firing)), True)
+            paper = cheapest(plant, story)
+            self.assertIs(cheapest_holds(plant, story, paper), True)
+            self.assertIs(is_firing(plant, story, paper[2]), True)
+            self.assertIs(prices_hold(plant, story, paper[2], paper[3]), True)
+            self.assertEqual(floor_of(plant, story, paper[3]), paper[1])
+            self.assertIs(fewest_holds(plant, story, fewest(plant, story)), True)
+        self.assertIs(cheapest_holds(SHORT, SHORT_STORY, cheapest(SHORT, SHORT_STORY)), True)
+        self.assertIs(stretch_holds(SHORT, SHORT_STORY, stretch_of(SHORT, SHORT_STORY)), True)
+        self.assertIs(fewest_holds(SHORT, SHORT_STORY, fewest(SHORT, SHORT_STORY)), True)
 
 
 if __name__ == "__main__":

@@ -90,15 +90,84 @@ class Language(unittest.TestCase):
 
     def test_each_name_of_a_top_is_bound_once(self):
         for path in FILES:
-            bound = []
-            for node in ast.parse(path.read_text(encoding="ascii")).body:
-                if isinstance(node, (ast.FunctionDef, ast.ClassDef)):
-                    bound.append(node.name)
-                elif isinstance(node, ast.ImportFrom):
-                    bound.extend([each.asname or each.name for each in node.names])
-                elif isinstance(node, ast.Assign):
-                    bound.extend([target.id for target in node.targets])
+            bound = own_names(path) + drawn_names(path)
             self.assertEqual(len(bound), len(set(bound)), path.name)
+
+    def test_names_are_drawn_from_the_file_that_defines_them(self):
+        for path in FILES:
+            for node in ast.parse(path.read_text(encoding="ascii")).body:
+                if isinstance(node, ast.ImportFrom):
+                    for each in node.names:
+                        self.assertIsNone(each.asname, path.name)
+                        self.assertIn(each.name, own_names(file_of(node.module)), (path.name, each.name))
+
+    def test_what_is_drawn_is_used(self):
+        for path in FILES:
+            nodes = ast.walk(ast.parse(path.read_text(encoding="ascii")))
+            used = {node.id for node in nodes if isinstance(node, ast.Name)}
+            self.assertLessEqual(set(drawn_names(path)), used, path.name)
+
+    def test_no_two_files_draw_from_one_another(self):
+        drawn = {path: files_drawn(path) for path in FILES}
+        while drawn:
+            free = [path for path in drawn if not any(other in drawn for other in drawn[path])]
+            self.assertTrue(free, drawn)
+            for path in free:
+                del drawn[path]
+
+    def test_no_local_is_called_like_an_import_or_a_class(self):
+        for path in FILES:
+            tree = ast.parse(path.read_text(encoding="ascii"))
+            taken = drawn_names(path) + [node.name for node in tree.body if isinstance(node, ast.ClassDef)]
+            for node in ast.walk(tree):
+                if isinstance(node, ast.arg):
+                    self.assertNotIn(node.arg, taken, path.name)
+                if isinstance(node, ast.Name) and isinstance(node.ctx, ast.Store):
+                    self.assertNotIn(node.id, taken, path.name)
+
+    def test_nothing_is_handed_in_with_a_star(self):
+        for name, node in self.nodes():
+            if isinstance(node, ast.Call):
+                self.assertFalse([each for each in node.args if isinstance(each, ast.Starred)], name)
+                self.assertFalse([each for each in node.keywords if each.arg is None], name)
+
+    def test_what_is_walked_is_not_kept(self):
+        for name, node in self.nodes():
+            if isinstance(node, (ast.Assign, ast.Return)) and isinstance(node.value, ast.Call):
+                walked = ("zip", "enumerate", "reversed", "range", "items", "keys", "values")
+                self.assertNotIn(called(node.value), walked, name)
+
+
+def file_of(module):
+    return PACKAGE / (module.split(".", 1)[1] + ".py")
+
+
+def own_names(path):
+    """The names that the file's own defs, classes and values have at its top."""
+    found = []
+    for node in ast.parse(path.read_text(encoding="ascii")).body:
+        if isinstance(node, (ast.FunctionDef, ast.ClassDef)):
+            found.append(node.name)
+        elif isinstance(node, ast.Assign):
+            found.extend([target.id for target in node.targets])
+    return found
+
+
+def imports(path):
+    return [node for node in ast.parse(path.read_text(encoding="ascii")).body if isinstance(node, ast.ImportFrom)]
+
+
+def drawn_names(path):
+    return [each.asname or each.name for node in imports(path) for each in node.names]
+
+
+def files_drawn(path):
+    return [file_of(node.module) for node in imports(path)]
+
+
+def called(node):
+    """The last word of what is called."""
+    return node.func.attr if isinstance(node.func, ast.Attribute) else getattr(node.func, "id", "")
 
 
 if __name__ == "__main__":

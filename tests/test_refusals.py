@@ -4,13 +4,7 @@ import unittest
 
 from mainfires.errors import MainError
 from tests.helper import CALLS, DAYS, ONE, ONE_STORY, REFUSALS, TWO, TWO_STORY, TWO_FIRING
-from tests.helper import as_lists, misshapen, strange_things
-
-
-def right_things(day):
-    """A right thing for each name that the interface has."""
-    plant, story, firing = day
-    return {"plant": plant, "story": story, "firing": firing, "thing": None}
+from tests.helper import as_lists, is_right, misshapen, right_things, strange_things
 
 
 class Refusals(unittest.TestCase):
@@ -22,8 +16,14 @@ class Refusals(unittest.TestCase):
         else:
             self.fail((call, arguments))
 
-    def wrong_things(self, right):
-        return strange_things() + [as_lists(right), list(right), (right,), right + (0,), right[:-1]]
+    def wrong_things(self, name, day):
+        right = right_things(day)[name]
+        found = strange_things() + [as_lists(right), (right,), [right], {0: right}, str(right)]
+        if isinstance(right, tuple):
+            found += [list(right), right + (0,), right + right, right[:-1], right[1:]]
+        else:
+            found += [-right - 1, right + 1, right + 100, 10**30]
+        return [thing for thing in found if not is_right(name, day, thing)]
 
     def test_each_argument_alone(self):
         for day in DAYS:
@@ -31,7 +31,7 @@ class Refusals(unittest.TestCase):
             for call, names in CALLS:
                 for at, name in enumerate(names):
                     if name in REFUSALS:
-                        for wrong in self.wrong_things(things[name]):
+                        for wrong in self.wrong_things(name, day):
                             arguments = [things[each] for each in names]
                             arguments[at] = wrong
                             self.assert_refused(REFUSALS[name], call, arguments)
@@ -41,7 +41,9 @@ class Refusals(unittest.TestCase):
         for call, names in CALLS:
             for at, name in enumerate(names):
                 if name in REFUSALS:
-                    for wrong in misshapen(things[name]):
+                    wrong_ones = [each for each in misshapen(things[name]) if not is_right(name, DAYS[1], each)]
+                    self.assertGreater(len(wrong_ones), 7)
+                    for wrong in wrong_ones:
                         arguments = [things[each] for each in names]
                         arguments[at] = wrong
                         self.assert_refused(REFUSALS[name], call, arguments)
@@ -52,7 +54,7 @@ class Refusals(unittest.TestCase):
             for call, names in CALLS:
                 for at, name in enumerate(names):
                     if name in REFUSALS:
-                        for wrong in strange_things():
+                        for wrong in [each for each in strange_things() if not is_right(name, day, each)]:
                             arguments = [things[each] for each in names[:at]] + [wrong] * (len(names) - at)
                             self.assert_refused(REFUSALS[name], call, arguments)
 
@@ -61,10 +63,12 @@ class Refusals(unittest.TestCase):
         for call, names in CALLS:
             refused = [name for name in names if name in REFUSALS]
             for mix in range(1, 2 ** len(refused)):
-                wrong = [name for at, name in enumerate(refused) if mix >> at & 1]
-                for strange in (None, True, 0, "", [], (), {}):
-                    arguments = [strange if name in wrong else things[name] for name in names]
-                    self.assert_refused(REFUSALS[wrong[0]], call, arguments)
+                mixed = [name for at, name in enumerate(refused) if mix >> at & 1]
+                for strange in (None, True, 0, -1, "", [], (), {}):
+                    wrong = [name for name in mixed if not is_right(name, DAYS[0], strange)]
+                    if wrong:
+                        arguments = [strange if name in wrong else things[name] for name in names]
+                        self.assert_refused(REFUSALS[wrong[0]], call, arguments)
 
     def test_a_story_or_a_firing_of_another(self):
         for call, names in CALLS:
