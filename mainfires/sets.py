@@ -4,7 +4,7 @@ from mainfires.days import keeps_up
 from mainfires.errors import NoSet
 from mainfires.kinds import is_firing_within, terms_of
 from mainfires.least import coal_under
-from mainfires.shapes import is_tuple_of, is_whole_from
+from mainfires.shapes import is_rising, is_tuple_of, is_whole_from
 from mainfires.stretches import is_short_paper, is_shown, least_stretch
 
 
@@ -13,7 +13,7 @@ def is_set(boilers, thing):
     return (
         is_tuple_of(thing, 0, boilers)
         and all([is_whole_from(part, 0, boilers - 1) for part in thing])
-        and all([ahead < part for ahead, part in zip(thing, thing[1:])])
+        and is_rising(thing)
     )
 
 

@@ -1,4 +1,4 @@
-"""What a thing of whatever sort is asked first: whether it is a number or a tuple at all."""
+"""What all modules need of numbers and tuples: whether a thing is one at all, and the plain steps with them."""
 
 
 def is_whole(thing):
@@ -15,3 +15,13 @@ def is_whole_from(thing, least, most):
 def is_tuple_of(thing, fewest, most):
     """Whether it is a tuple with from fewest to most parts."""
     return isinstance(thing, tuple) and fewest <= len(thing) <= most
+
+
+def is_rising(parts):
+    """Whether each of the parts is greater than the one ahead."""
+    return all([ahead < part for ahead, part in zip(parts, parts[1:])])
+
+
+def replaced(row, at, part):
+    """The tuple with that part in that place."""
+    return row[:at] + (part,) + row[at + 1 :]

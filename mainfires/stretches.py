@@ -62,10 +62,13 @@ def fullest(plant, story):
 def leanest(plant, story):
     """The least that the main may have at each hour's end so that the rest can keep up; None where no firing does."""
     terms = terms_of(plant, story)
-    if least_stretch(terms) is not None:
-        return None
+    return None if least_stretch(terms) is not None else tuple(least_mains(terms))
+
+
+def least_mains(terms):
+    """The least that the main may have at each hour's end so that, by all that can be made, the rest keeps up."""
     caps, coals, draws, (low, high, start) = terms
     told = [low]
     for row, drawn in reversed(list(zip(caps[1:], draws[1:]))):
         told.append(max(low, told[-1] + drawn - sum(row)))
-    return tuple(told[::-1])
+    return told[::-1]

@@ -3,6 +3,7 @@
 from mainfires.errors import NoWay
 from mainfires.kinds import need_boiler, need_hour, terms_of
 from mainfires.least import coal_under
+from mainfires.shapes import replaced
 
 
 def coal_or_refuse(terms):
@@ -15,7 +16,7 @@ def coal_or_refuse(terms):
 
 def added(row, at, units):
     """The row with so many units added in that place."""
-    return row[:at] + (row[at] + units,) + row[at + 1 :]
+    return replaced(row, at, row[at] + units)
 
 
 def more_drawn(plant, story, hour):
@@ -74,5 +75,5 @@ def better(plant, story, boiler, hour):
     need_hour(story, hour)
     coal = coal_or_refuse(terms)
     caps, coals, draws, main = terms
-    row = added(caps[hour], boiler, 1)
-    return coal - coal_under((caps[:hour] + (row,) + caps[hour + 1 :], coals, draws, main))
+    grown = replaced(caps, hour, added(caps[hour], boiler, 1))
+    return coal - coal_under((grown, coals, draws, main))

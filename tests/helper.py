@@ -3,8 +3,9 @@
 import itertools
 import random
 
-from mainfires import days, kinds, least, sets, stretches, units
-from mainfires.errors import NoBoiler, NoFiring, NoHour, NoPlant, NoPrices, NoSet, NoStory
+from mainfires import days, dials, kinds, least, outs, sets, stretches, units, water
+from mainfires.errors import NoBoiler, NoFeeding, NoFiring, NoHour, NoPlant, NoPrices, NoPump, NoReadings, NoSet
+from mainfires.errors import NoStart, NoStory, NoTanks
 
 ONE = (((5, 2),), (), (0, 10, 5))
 ONE_STORY = ((3, 4, 5), ())
@@ -83,6 +84,11 @@ REFUSALS = {
     "hour": NoHour,
     "boiler": NoBoiler,
     "chosen": NoSet,
+    "tanks": NoTanks,
+    "pump": NoPump,
+    "feeding": NoFeeding,
+    "readings": NoReadings,
+    "start": NoStart,
 }
 CALLS = (
     (kinds.is_plant, ("thing",)),
@@ -117,6 +123,19 @@ CALLS = (
     (sets.fewest_holds, ("plant", "story", "thing")),
     (sets.alone, ("plant", "story", "chosen")),
     (sets.needed, ("plant", "story")),
+    (outs.least_moved, ("plant", "story", "firing", "boiler", "hour")),
+    (outs.moved, ("plant", "story", "firing", "boiler", "hour")),
+    (outs.moved_by, ("plant", "story", "firing", "boiler", "hour", "thing")),
+    (outs.outs_let, ("plant", "story", "firing", "boiler")),
+    (water.is_feeding, ("plant", "story", "pump", "thing")),
+    (water.water_at, ("plant", "story", "firing", "tanks", "pump", "feeding")),
+    (water.dry_at, ("plant", "story", "firing", "tanks", "pump", "feeding")),
+    (water.feeds, ("plant", "story", "firing", "tanks", "pump")),
+    (water.feeds_holds, ("plant", "story", "firing", "tanks", "pump", "thing")),
+    (water.least_pump, ("plant", "story", "firing", "tanks")),
+    (dials.is_readings, ("thing",)),
+    (dials.agree, ("readings", "start")),
+    (dials.off_dials, ("readings", "start")),
 )
 
 
@@ -133,6 +152,11 @@ def right_things(day):
         "hour": hours - 1,
         "boiler": boilers - 1,
         "chosen": tuple(range(boilers)),
+        "tanks": tuple((20 + boiler, 5 * boiler) for boiler in range(boilers)),
+        "pump": 14,
+        "feeding": (tuple(range(2, 2 + boilers)),) * hours,
+        "readings": ((5, 1, 2, 0, 10), (3, 1, 2, 0, 12), (3, 0, 2, 1, 12)),
+        "start": 5,
         "thing": None,
     }
 
@@ -150,7 +174,19 @@ def is_right(name, day, thing):
         return type(thing) is tuple and len(thing) == hours and all(type(each) is int and each >= 0 for each in thing)
     if name == "chosen":
         return kind_and_value(thing) in [kind_and_value(chosen) for chosen in all_sets(boilers)]
+    if name in ("pump", "start"):
+        return type(thing) is int and 0 <= thing <= 40
+    if name == "readings":
+        return is_read(thing)
     return False
+
+
+def is_read(thing):
+    """Whether it is readings."""
+    rows = thing if type(thing) is tuple and 1 <= len(thing) <= 8 else (None,)
+    if any(type(row) is not tuple or len(row) not in (4, 5, 6, 7) or len(row) != len(rows[0]) for row in rows):
+        return False
+    return all(type(part) is int and -99 <= part <= 99 for row in rows for part in row)
 
 
 def all_sets(boilers):
@@ -320,3 +356,21 @@ def all_firings(plant, story):
     """All firings of both."""
     rows = [itertools.product(*[range(cap + 1) for cap in row]) for row in kinds.caps_of(plant, story)]
     return list(itertools.product(*rows))
+
+
+def chance_firings(plant, story):
+    """Firings of both that keep up: the full one, and such with units taken off, down to where none can be."""
+    full = kinds.full_firing(plant, story)
+    if not days.keeps_up(plant, story, full):
+        return []
+    chance = random.Random(7)
+    found = [full]
+    for tries in (5, 30, 200):
+        firing = full
+        for turn in range(tries):
+            hour, boiler = chance.randrange(len(full)), chance.randrange(len(full[0]))
+            fewer = put(firing, (hour, boiler), max(firing[hour][boiler] - 1, 0))
+            if days.keeps_up(plant, story, fewer):
+                firing = fewer
+        found.append(firing)
+    return found

@@ -5,13 +5,20 @@ import itertools
 import unittest
 
 from mainfires.days import banked, books_right, course
+from mainfires.dials import off_dials
 from mainfires.errors import MainError
 from mainfires.kinds import caps_of, is_firing, is_plant, is_story
 from mainfires.least import cheapest, cheapest_holds, floor_of, prices_hold
+from mainfires.outs import moved, moved_by, outs_let
 from mainfires.sets import fewest, fewest_holds
 from mainfires.stretches import stretch_holds, stretch_of
+from mainfires.water import feeds, feeds_holds, is_feeding, water_at
 from tests.helper import CALLS, DAYS, REFUSALS, SHORT, SHORT_STORY, as_lists, kind_and_value, misshapen, right_things
 from tests.helper import strange_things
+
+
+# The functions that tell lists.
+LISTED = [(call, names) for call, names in CALLS if call in (course, banked, outs_let, water_at, off_dials)]
 
 
 def handed_in(day, thing):
@@ -28,9 +35,11 @@ def answer(call, arguments):
 
 class Calm(unittest.TestCase):
     def things(self, day):
-        papers = [cheapest(*day[:2]), fewest(*day[:2])]
-        lists = [as_lists(part) for part in list(day) + papers]
-        return strange_things() + papers + lists + [course(*day)] + misshapen(course(*day))
+        rest = right_things(day)
+        papers = [cheapest(*day[:2]), fewest(*day[:2]), feeds(*day, rest["tanks"], rest["pump"]), ("dry", 0)]
+        told = papers + [moved(*day, rest["boiler"], rest["hour"]), rest["feeding"], rest["readings"]]
+        lists = [as_lists(part) for part in list(day) + told]
+        return strange_things() + told + lists + [course(*day)] + misshapen(course(*day))
 
     def test_what_is_handed_in_stays_as_it_was(self):
         for day in DAYS:
@@ -54,21 +63,24 @@ class Calm(unittest.TestCase):
 
     def test_a_told_list_that_is_changed_changes_no_later_answer(self):
         for day in DAYS:
-            for call in (course, banked):
-                told = call(*day)
+            for call, names in LISTED:
+                arguments = [right_things(day)[name] for name in names]
+                told = call(*arguments)
                 kept = list(told)
                 told.append((9, 9))
-                self.assertEqual(call(*day), kept)
+                self.assertEqual(call(*arguments), kept)
                 told.clear()
-                self.assertEqual(call(*day), kept)
-                told = call(*day)
+                self.assertEqual(call(*arguments), kept)
+                told = call(*arguments)
                 told[:] = told[::-1]
-                self.assertEqual(call(*day), kept)
+                self.assertEqual(call(*arguments), kept)
 
     def test_each_told_list_is_new(self):
         for day in DAYS:
-            for call in (course, banked):
-                self.assertIsNot(call(*day), call(*day))
+            for call, names in LISTED:
+                arguments = [right_things(day)[name] for name in names]
+                self.assertIs(type(call(*arguments)), list)
+                self.assertIsNot(call(*arguments), call(*arguments))
 
     def test_a_handed_in_list_that_is_changed_changes_no_later_answer(self):
         for day in DAYS:
@@ -125,6 +137,16 @@ class Calm(unittest.TestCase):
             self.assertIs(prices_hold(plant, story, paper[2], paper[3]), True)
             self.assertEqual(floor_of(plant, story, paper[3]), paper[1])
             self.assertIs(fewest_holds(plant, story, fewest(plant, story)), True)
+            for boiler, hour in itertools.product(range(len(plant[0])), range(len(firing))):
+                told = moved(plant, story, firing, boiler, hour)
+                if told is not None:
+                    self.assertIsNotNone(moved_by(plant, story, firing, boiler, hour, told))
+                    self.assertIsNotNone(moved(plant, story, told, boiler, hour))
+            tanks = right_things((plant, story, firing))["tanks"]
+            word, feeding = feeds(plant, story, firing, tanks, 40)
+            self.assertIs(feeds_holds(plant, story, firing, tanks, 40, (word, feeding)), True)
+            self.assertIs(is_feeding(plant, story, 40, feeding), True)
+            self.assertEqual(len(water_at(plant, story, firing, tanks, 40, feeding)), len(firing))
         self.assertIs(cheapest_holds(SHORT, SHORT_STORY, cheapest(SHORT, SHORT_STORY)), True)
         self.assertIs(stretch_holds(SHORT, SHORT_STORY, stretch_of(SHORT, SHORT_STORY)), True)
         self.assertIs(fewest_holds(SHORT, SHORT_STORY, fewest(SHORT, SHORT_STORY)), True)

@@ -74,7 +74,8 @@ class Refusals(unittest.TestCase):
         for call, names in CALLS:
             rest = [None] * (len(names) - 3)
             if "story" in names:
-                self.assert_refused(REFUSALS["story"], call, [ONE, TWO_STORY, TWO_FIRING, None][: len(names)])
+                arguments = [ONE, TWO_STORY, TWO_FIRING] + rest
+                self.assert_refused(REFUSALS["story"], call, arguments[: len(names)])
             if "firing" in names:
                 self.assert_refused(REFUSALS["firing"], call, [TWO, TWO_STORY, ((6, 3),) * 4] + rest)
                 self.assert_refused(REFUSALS["firing"], call, [ONE, ONE_STORY, TWO_FIRING] + rest)
