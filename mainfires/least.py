@@ -3,19 +3,14 @@
 from mainfires.days import coal_of, keeps_up, need_keeping
 from mainfires.errors import NoPrices
 from mainfires.kinds import is_firing, terms_of
-from mainfires.shapes import is_tuple_of, is_whole
+from mainfires.shapes import is_counts, is_tuple_of, is_whole
 from mainfires.stretches import is_short_paper, least_stretch
-
-
-def is_prices(hours, thing):
-    """Whether it is prices of so many hours."""
-    return is_tuple_of(thing, hours, hours) and all([is_whole(part) and part >= 0 for part in thing])
 
 
 def floor_of(plant, story, prices):
     """What, by these prices of the hours, each firing that keeps up burns at least."""
     terms = terms_of(plant, story)
-    if not is_prices(len(story[0]), prices):
+    if not is_counts(prices, len(story[0])):
         raise NoPrices("no prices of this story")
     low, high, start = plant[2]
     behind = prices[1:] + (0,)
@@ -137,7 +132,7 @@ def is_fired_paper(plant, story, thing):
 def prices_hold(plant, story, firing, thing):
     """Whether it is prices that show that the firing, which must keep up, burns the least."""
     need_keeping(plant, story, firing)
-    return is_prices(len(story[0]), thing) and floor_of(plant, story, thing) == coal_of(plant, story, firing)
+    return is_counts(thing, len(story[0])) and floor_of(plant, story, thing) == coal_of(plant, story, firing)
 
 
 def least_coal(plant, story):

@@ -17,6 +17,11 @@ def is_tuple_of(thing, fewest, most):
     return isinstance(thing, tuple) and fewest <= len(thing) <= most
 
 
+def is_counts(thing, many):
+    """Whether it is a tuple of so many whole numbers from 0 on."""
+    return is_tuple_of(thing, many, many) and all([is_whole(part) and part >= 0 for part in thing])
+
+
 def is_rising(parts):
     """Whether each of the parts is greater than the one ahead."""
     return all([ahead < part for ahead, part in zip(parts, parts[1:])])

@@ -3,9 +3,9 @@
 import itertools
 import random
 
-from mainfires import days, dials, kinds, least, outs, sets, stretches, units, water
-from mainfires.errors import NoBoiler, NoFeeding, NoFiring, NoHour, NoPlant, NoPrices, NoPump, NoReadings, NoSet
-from mainfires.errors import NoStart, NoStory, NoTanks
+from mainfires import days, dials, kinds, least, outs, sets, shifts, stretches, texts, units, water
+from mainfires.errors import NoBoiler, NoBook, NoFeeding, NoFiring, NoHour, NoPlant, NoPrices, NoPump, NoReadings
+from mainfires.errors import NoSet, NoShifts, NoStart, NoStory, NoTanks, NoText
 
 ONE = (((5, 2),), (), (0, 10, 5))
 ONE_STORY = ((3, 4, 5), ())
@@ -89,6 +89,9 @@ REFUSALS = {
     "feeding": NoFeeding,
     "readings": NoReadings,
     "start": NoStart,
+    "shifts": NoShifts,
+    "book": NoBook,
+    "text": NoText,
 }
 CALLS = (
     (kinds.is_plant, ("thing",)),
@@ -136,6 +139,10 @@ CALLS = (
     (dials.is_readings, ("thing",)),
     (dials.agree, ("readings", "start")),
     (dials.off_dials, ("readings", "start")),
+    (shifts.shift_coal, ("plant", "story", "firing", "shifts")),
+    (shifts.lacking, ("plant", "story", "firing", "shifts", "book")),
+    (texts.firing_text, ("plant", "story", "firing")),
+    (texts.firing_read, ("plant", "story", "text")),
 )
 
 
@@ -157,6 +164,9 @@ def right_things(day):
         "feeding": (tuple(range(2, 2 + boilers)),) * hours,
         "readings": ((5, 1, 2, 0, 10), (3, 1, 2, 0, 12), (3, 0, 2, 1, 12)),
         "start": 5,
+        "shifts": (0, hours - 1),
+        "book": (7, 0),
+        "text": hand_text(firing),
         "thing": None,
     }
 
@@ -178,7 +188,24 @@ def is_right(name, day, thing):
         return type(thing) is int and 0 <= thing <= 40
     if name == "readings":
         return is_read(thing)
+    if name == "shifts":
+        return kind_and_value(thing) in [kind_and_value((0,) + rest) for rest in all_sets(hours) if 0 not in rest]
+    if name == "book":
+        return type(thing) is tuple and len(thing) == 2 and all(type(each) is int and each >= 0 for each in thing)
+    if name == "text":
+        return thing == hand_text(firing)
     return False
+
+
+def hand_text(firing):
+    """The firing's text, sign by sign."""
+    text = ""
+    for hour, row in enumerate(firing):
+        text += "/" if hour > 0 else ""
+        for boiler, made in enumerate(row):
+            text += " " if boiler > 0 else ""
+            text += "0123456789"[made]
+    return text
 
 
 def is_read(thing):

@@ -11,14 +11,16 @@ from mainfires.kinds import caps_of, is_firing, is_plant, is_story
 from mainfires.least import cheapest, cheapest_holds, floor_of, prices_hold
 from mainfires.outs import moved, moved_by, outs_let
 from mainfires.sets import fewest, fewest_holds
+from mainfires.shifts import lacking, shift_coal
 from mainfires.stretches import stretch_holds, stretch_of
+from mainfires.texts import firing_read, firing_text
 from mainfires.water import feeds, feeds_holds, is_feeding, water_at
 from tests.helper import CALLS, DAYS, REFUSALS, SHORT, SHORT_STORY, as_lists, kind_and_value, misshapen, right_things
 from tests.helper import strange_things
 
 
 # The functions that tell lists.
-LISTED = [(call, names) for call, names in CALLS if call in (course, banked, outs_let, water_at, off_dials)]
+LISTED = [(call, names) for call, names in CALLS if call in (course, banked, outs_let, water_at, off_dials, lacking)]
 
 
 def handed_in(day, thing):
@@ -147,6 +149,8 @@ class Calm(unittest.TestCase):
             self.assertIs(feeds_holds(plant, story, firing, tanks, 40, (word, feeding)), True)
             self.assertIs(is_feeding(plant, story, 40, feeding), True)
             self.assertEqual(len(water_at(plant, story, firing, tanks, 40, feeding)), len(firing))
+            self.assertEqual(firing_read(plant, story, firing_text(plant, story, firing)), firing)
+            self.assertEqual(lacking(plant, story, firing, (0, 1), shift_coal(plant, story, firing, (0, 1))), [])
         self.assertIs(cheapest_holds(SHORT, SHORT_STORY, cheapest(SHORT, SHORT_STORY)), True)
         self.assertIs(stretch_holds(SHORT, SHORT_STORY, stretch_of(SHORT, SHORT_STORY)), True)
         self.assertIs(fewest_holds(SHORT, SHORT_STORY, fewest(SHORT, SHORT_STORY)), True)

@@ -23,6 +23,9 @@ NODES_OUT = (
     ast.GeneratorExp, ast.NamedExpr, ast.With, ast.Match, ast.Global, ast.Nonlocal, ast.Yield, ast.YieldFrom,
     ast.AsyncFunctionDef, ast.Await, ast.Div,
 )  # fmt: skip
+PLAIN_NODES = (ast.Constant, ast.Tuple, ast.Dict, ast.Name, ast.Load)
+# Those of L25 that the package calls.
+PYTHONS_METHODS = {"append", "count", "items", "join", "partition", "pop", "split"}
 
 
 class Language(unittest.TestCase):
@@ -136,6 +139,45 @@ class Language(unittest.TestCase):
             if isinstance(node, (ast.Assign, ast.Return)) and isinstance(node.value, ast.Call):
                 walked = ("zip", "enumerate", "reversed", "range", "items", "keys", "values")
                 self.assertNotIn(called(node.value), walked, name)
+
+    def test_classes(self):
+        for name, node in self.nodes():
+            if isinstance(node, ast.ClassDef):
+                self.assertLessEqual(len(node.bases), 1, (name, node.name))
+                self.assertEqual(node.decorator_list + node.keywords, [], (name, node.name))
+                rest = [each for each in node.body if not isinstance(each, ast.FunctionDef)]
+                docstring = [each for each in node.body[:1] if isinstance(each, ast.Expr)]
+                self.assertEqual(rest, docstring, (name, node.name))
+
+    def test_methods_and_values_have_names_apart(self):
+        methods, values = self.methods(), self.values()
+        self.assertFalse(methods & values)
+        for kind in (str, int, list, tuple, dict, set, bytes):
+            self.assertFalse((methods | values) & set(dir(kind)) - {"__init__"}, kind)
+        for name, node in self.nodes():
+            if isinstance(node, ast.Attribute) and isinstance(node.ctx, ast.Load):
+                self.assertIn(node.attr, methods | values | PYTHONS_METHODS, name)
+
+    def methods(self):
+        classes = [node for name, node in self.nodes() if isinstance(node, ast.ClassDef)]
+        return {each.name for node in classes for each in node.body if isinstance(each, ast.FunctionDef)}
+
+    def values(self):
+        nodes = [node for name, node in self.nodes() if isinstance(node, ast.Attribute)]
+        return {node.attr for node in nodes if isinstance(node.ctx, ast.Store)}
+
+    def test_errors_are_made_where_they_are_raised(self):
+        errors = own_names(PACKAGE / "errors.py")
+        for name, node in self.nodes():
+            if isinstance(node, ast.Raise):
+                self.assertIn(called(node.exc), errors, name)
+
+    def test_a_tops_values_are_plain(self):
+        for path in FILES:
+            for node in ast.parse(path.read_text(encoding="ascii")).body:
+                if isinstance(node, ast.Assign):
+                    for each in ast.walk(node.value):
+                        self.assertIsInstance(each, PLAIN_NODES, path.name)
 
 
 def file_of(module):

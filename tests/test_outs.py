@@ -54,7 +54,8 @@ def units_for(caps, row, boiler):
     least_for = {0: 0}
     for at, cap in enumerate(caps):
         if at != boiler:
-            sums = [(made + new, units + abs(new - row[at])) for made, units in least_for.items() for new in range(cap + 1)]
+            ways = itertools.product(least_for.items(), range(cap + 1))
+            sums = [(made + new, units + abs(new - row[at])) for (made, units), new in ways]
             least_for = {}
             for made, units in sums:
                 least_for[made] = min(units, least_for.get(made, units))

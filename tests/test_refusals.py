@@ -21,6 +21,8 @@ class Refusals(unittest.TestCase):
         found = strange_things() + [as_lists(right), (right,), [right], {0: right}, str(right)]
         if isinstance(right, tuple):
             found += [list(right), right + (0,), right + right, right[:-1], right[1:]]
+        elif isinstance(right, str):
+            found += [right + "/", right[:-1], right[1:], " " + right, right + " ", right + "\n", right.encode().hex()]
         else:
             found += [-right - 1, right + 1, right + 100, 10**30]
         return [thing for thing in found if not is_right(name, day, thing)]

@@ -309,7 +309,9 @@ class FeedsHolds(unittest.TestCase):
             ("fed", ("fed", feeding)), (("fed",), feeding), ("fed", "dry"), "fe", "dr",
         ):  # fmt: skip
             self.assertIs(feeds_holds(*self.day, 4, thing), False, thing)
-        for thing in (("dry",), ("dry", 2, 2), ["dry", 2], ("fed", 2), (2, "dry"), {"dry": 2}, ("dry", "2"), ("dry", [2])):
+        for thing in (
+            ("dry",), ("dry", 2, 2), ["dry", 2], ("fed", 2), (2, "dry"), {"dry": 2}, ("dry", "2"), ("dry", [2]),
+        ):  # fmt: skip
             self.assertIs(feeds_holds(*self.day, 2, thing), False, thing)
 
     def test_things_of_all_sorts(self):
